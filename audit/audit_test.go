@@ -223,6 +223,16 @@ func TestWhatIsFound(t *testing.T) {
 	// The keeper is yet to look after those alone whose lives have ended.
 	r.Crash(0)
 	look(t, "an entry that is claimed by nobody, while the keeper is busy", r, audit.Owners)
+	// One that was stopped, and has never done anything.
+	for account := 1; account <= 2; account++ {
+		r = begun()
+		r.Stop()
+		for i := 0; len(r.Who()) > 0; i++ {
+			r.Pick(i)
+		}
+		r.Site().Alloc.Do(api.Op{Kind: api.OpReserve, Who: account, Account: account, N: 1})
+		look(t, "a number that is held by one that was stopped", r, audit.Holders)
+	}
 	for side := range 2 {
 		r = begun()
 		r.Crash(0)

@@ -198,18 +198,28 @@ func TestSettle(t *testing.T) {
 		t.Errorf("once more: %d, %v", again, ok)
 	}
 	// The orders are taken one behind the other, around.
-	a, b := made(t, conf.Plain(1, 1)), made(t, conf.Plain(1, 1))
-	for _, x := range []*relay.Relay{a, b} {
-		x.Site().World.Send(api.Packet{})
-		x.Site().World.Tick(0)
-		x.Start()
-	}
-	bound.Settle(a, bound.Open(a), []uint64{4, 1, 3}, 8)
-	for _, order := range []uint64{4, 1, 3, 4, 1, 3, 4, 1} {
-		bound.Window(b, order)
-	}
-	if !slices.Equal(a.Site().Hist.Records(), b.Site().Hist.Records()) || a.Site().World.Ticks() != b.Site().World.Ticks() {
-		t.Errorf("other orders")
+	for i, orders := range [][]uint64{{4, 1, 3}, {5}, {2, 5}, nil} {
+		a, b := made(t, conf.Plain(1, 1)), made(t, conf.Plain(1, 1))
+		for _, x := range []*relay.Relay{a, b} {
+			x.Site().World.Send(api.Packet{})
+			x.Site().World.Send(api.Packet{From: 1})
+			x.Site().World.Tick(0)
+			x.Site().World.Tick(1)
+			x.Start()
+		}
+		if n, ok := bound.Settle(a, bound.Open(a), orders, 8); n != 8 || ok {
+			t.Errorf("%d: %d, %v", i, n, ok)
+		}
+		for j := range 8 {
+			order := uint64(0)
+			if len(orders) > 0 {
+				order = orders[j%len(orders)]
+			}
+			bound.Window(b, order)
+		}
+		if !slices.Equal(a.Site().Hist.Records(), b.Site().Hist.Records()) || a.Site().World.Ticks() != b.Site().World.Ticks() {
+			t.Errorf("%d: other orders", i)
+		}
 	}
 }
 

@@ -121,6 +121,9 @@ func TestPlayErrors(t *testing.T) {
 	if r, l, n, e := crew.Play(conf.Plain(1, 1), long); r != nil || len(l) != 0 || len(n) != 0 || e != api.ErrFull {
 		t.Errorf("%v", e)
 	}
+	if r, l, n, e := crew.Play(conf.Plain(1, 1), long[1:]); r == nil || len(l) != api.MaxList || l[0] != api.ErrArg || len(n) != relay.Keeper+1 || e != api.OK {
+		t.Errorf("as many as may be: %v", e)
+	}
 	if r, l, n, e := crew.Play(conf.Plain(1, 1), nil); r == nil || len(l) != 0 || len(n) != relay.Keeper+1 || e != api.OK {
 		t.Errorf("%v", e)
 	}

@@ -157,6 +157,10 @@ func TestBytesThatAreLeftAreNoErrorThatStays(t *testing.T) {
 	if s := r.Text(2); s != "ab" || r.Left() != 0 || r.End() != api.OK {
 		t.Errorf("%q, %d left, %v", s, r.Left(), r.End())
 	}
+	one := digit.Read("\x00\x00")
+	if n := one.Num(9); n != 0 || one.Left() != 1 || one.End() != api.ErrLong {
+		t.Errorf("a 0, and a byte: %d, %d left, %v", n, one.Left(), one.End())
+	}
 	if n := r.Num(7); n != 0 || r.End() != api.ErrShort {
 		t.Errorf("behind the end: %d, %v", n, r.End())
 	}

@@ -64,7 +64,7 @@ func TestNoFault(t *testing.T) {
 		t.Errorf("no error tells something")
 	}
 	for _, e := range []error{f, fault.At(fault.Low, f)} {
-		if fault.Code(e) != api.ErrArg || fault.Is(e, api.ErrArg) || fault.Has(e, fault.High) {
+		if fault.Code(e) != api.ErrArg || fault.Is(e, api.ErrArg) || fault.Has(e, fault.High) || len(fault.Places(e)) > 1 {
 			t.Errorf("a fault that nobody made: %v", fault.Code(e))
 		}
 	}
@@ -83,6 +83,9 @@ func TestCodeAndIs(t *testing.T) {
 				t.Errorf("%v has other numbers too", e)
 			}
 		}
+	}
+	if fault.Is(api.OK, api.OK) || fault.Is(fault.At(fault.Low, api.OK), api.OK) || fault.Code(api.OK) != api.OK {
+		t.Errorf("OK is an error")
 	}
 	if !fault.Is(nil, api.OK) || fault.Is(nil, api.ErrArg) || fault.Is(nil, -1) {
 		t.Errorf("no error")
@@ -145,7 +148,7 @@ func TestMoreFaultsThanMayBeTold(t *testing.T) {
 func TestAFaultThatWrapsItself(t *testing.T) {
 	f := &fault.Fault{Place: fault.Low}
 	f.Err = fault.At(fault.High, f)
-	if fault.Code(f) != api.ErrArg || fault.Is(f, api.ErrArg) || len(fault.Places(f)) != api.MaxList {
+	if fault.Code(f) != api.ErrArg || fault.Is(f, api.ErrArg) || fault.Has(f, fault.Pool) || len(fault.Places(f)) != api.MaxList {
 		t.Errorf("%v, %d places", fault.Code(f), len(fault.Places(f)))
 	}
 }

@@ -112,6 +112,11 @@ func TestExplains(t *testing.T) {
 		{[]api.Rec{rec(insert, api.OK, 0, 5), rec(claim(3), api.OK, 5, 6)}, []int{0, 1}, true},
 		{[]api.Rec{rec(claim(3), api.OK, 0, 5), rec(insert, api.OK, 5, 6)}, []int{1, 0}, true},
 		{[]api.Rec{rec(claim(3), api.OK, 0, 4), rec(insert, api.OK, 5, 6)}, []int{1, 0}, false},
+		// One that ended at 0 has ended.
+		{[]api.Rec{rec(insert, api.ErrExists, -1, 0)}, nil, false},
+		{[]api.Rec{rec(insert, api.ErrExists, -1, 0)}, []int{0}, false},
+		{[]api.Rec{rec(insert, api.OK, -1, 0), rec(claim(3), api.OK, 1, 2)}, []int{1, 0}, false},
+		{[]api.Rec{rec(insert, api.OK, -1, 0), rec(claim(3), api.OK, 1, 2)}, []int{0, 1}, true},
 		// An error that was not the one.
 		{[]api.Rec{rec(insert, api.ErrFull, 0, 1)}, []int{0}, false},
 		{[]api.Rec{{Op: insert, Ret: api.Ret{N: 1}, End: 1}}, []int{0}, false},

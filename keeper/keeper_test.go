@@ -207,6 +207,35 @@ func TestWhatIsToBeDoneCounts(t *testing.T) {
 	}
 }
 
+// TestEachOneIsLookedAfterWhole: of the second one all shards and both ledgers are looked at too.
+func TestEachOneIsLookedAfterWhole(t *testing.T) {
+	s, k := made(t)
+	for who := 1; who <= 3; who++ {
+		for seq := range uint64(3) {
+			key := api.Key{Chan: who, Seq: seq}
+			s.Do(api.Op{Kind: api.OpInsert, Key: key})
+			s.Do(api.Op{Kind: api.OpClaim, Who: who, Key: key})
+		}
+		for side := range 2 {
+			s.Do(api.Op{Kind: api.OpReserve, Who: who, Side: side, Account: 1, N: 1})
+		}
+		k.Tell(crash(who), 0)
+	}
+	for i := 0; k.Busy(); i++ {
+		if k.Step(); i > 200 {
+			t.Fatalf("no end")
+		}
+	}
+	if n := s.Table.Count(api.StDone); n != 9 {
+		t.Errorf("%d are done", n)
+	}
+	for who := 1; who <= 3; who++ {
+		if len(s.Alloc.Held(0, 1, who)) != 0 || len(s.Alloc.Held(1, 1, who)) != 0 {
+			t.Errorf("%d holds numbers", who)
+		}
+	}
+}
+
 func TestOneBehindTheOther(t *testing.T) {
 	_, k := made(t)
 	k.Tell(crash(1), 3)

@@ -334,11 +334,11 @@ func TestMemoryIsNotShared(t *testing.T) {
 
 func TestNoLedger(t *testing.T) {
 	var l *ledger.Ledger
-	_, e := l.Expected(0)
+	n, e := l.Expected(0)
 	want(t, "Expected", e, api.ErrArg, fault.Ledger)
 	_, had := l.Event(0)
 	_, found := l.Find(api.Key{})
-	if l.Side() != api.None || l.Height() != 0 || l.Line(0) != nil || len(l.Nonces()) != 0 || l.Has(api.Msg{}) || l.Waiting() != 0 ||
+	if n != 0 || l.Side() != api.None || l.Height() != 0 || l.Line(0) != nil || len(l.Nonces()) != 0 || l.Has(api.Msg{}) || l.Waiting() != 0 ||
 		l.Redundant(api.Msg{Kind: api.MsgAck}) || len(l.Events()) != 0 || had || len(l.Results()) != 0 || found {
 		t.Errorf("a ledger that nobody made tells something")
 	}

@@ -73,6 +73,14 @@ func TestOf(t *testing.T) {
 	}
 }
 
+func TestAFaultThatWrapsItself(t *testing.T) {
+	f := &fault.Fault{Place: fault.Low}
+	f.Err = fault.At(fault.High, f)
+	if got := outcome.Of(f); got != outcome.Wrong {
+		t.Errorf("%s", outcome.Name(got))
+	}
+}
+
 func TestOpAndAgain(t *testing.T) {
 	for o, x := range map[int]struct {
 		op    int

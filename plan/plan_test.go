@@ -208,6 +208,13 @@ func TestExpected(t *testing.T) {
 		want(far, min(1<<31-1, 1<<31+1-i))
 		s.w.Tick(1)
 	}
+	back := s.send(0, 1, 9)
+	for i := range 3 {
+		want(back, 9-int(s.w.Ledger(0).Height()))
+		if s.w.Tick(0); i == 2 && s.w.Ledger(0).Height() == s.w.Ledger(1).Height() {
+			t.Errorf("both ledgers are at one height")
+		}
+	}
 	s.do(recv(q), 1)
 	want(q, api.None)
 	s.do(ack(q), 0)

@@ -133,6 +133,24 @@ func TestPickAndStep(t *testing.T) {
 	want(t, r, relay.Status{Running: true, Alive: []int{0, 1, 2, 3}, Made: 5, Ends: 1})
 }
 
+func TestAllDirections(t *testing.T) {
+	r := started(t, conf.Plain(4, 1))
+	if !slices.Equal(r.Who(), []int{0, 1, 2, 3, 4, 5, 6, 7}) {
+		t.Errorf("%v", r.Who())
+	}
+	for d := range 8 {
+		if n, e := r.Pick(d); n != d || e != api.OK {
+			t.Errorf("Pick(%d): %d, %v", d, n, e)
+		}
+		r.Crash(d)
+		keep(t, r)
+		if w := r.Worker(d); w.Id() != 9+d || w.Direction() != d || w.Phase() != worker.Scanning {
+			t.Errorf("direction %d: worker %d", d, w.Id())
+		}
+	}
+	want(t, r, relay.Status{Running: true, Alive: []int{0, 1, 2, 3, 4, 5, 6, 7}, Made: 16, Ends: 8})
+}
+
 func TestStop(t *testing.T) {
 	r := started(t, conf.Plain(1, 1))
 	r.Crash(0)

@@ -118,6 +118,9 @@ func TestNumbersOneByOne(t *testing.T) {
 			t.Errorf("%d: %d, %v, %v", i, next, back, held)
 		}
 	}
+	if r := o.Do(api.Op{Kind: api.OpReserve, Who: 1, Account: 1, N: 2 * api.MaxTxs}); r != (api.Ret{N: 5, Many: 8}) {
+		t.Errorf("as many as may be: %v", r)
+	}
 	if r := o.Do(api.Op{Kind: api.OpReserve, Who: 1, Account: 3, N: 1}); r != (api.Ret{E: api.ErrAccount}) {
 		t.Errorf("no account: %v", r)
 	}

@@ -135,6 +135,8 @@ func TestWrong(t *testing.T) {
 		{[]api.Mark{of(api.EvSend, late)}, mark(1, api.EvRecv, 3, late), trace.Late},
 		{[]api.Mark{of(api.EvSend, late)}, mark(1, api.EvRecv, api.Top, late), trace.Late},
 		{[]api.Mark{of(api.EvSend, late)}, mark(1, api.EvRecv, 2, late), trace.Fine},
+		{[]api.Mark{of(api.EvSend, with(p, 1, "x"))}, mark(1, api.EvRecv, 1, with(p, 1, "x")), trace.Late},
+		{[]api.Mark{of(api.EvSend, with(p, 1, "x"))}, mark(1, api.EvRecv, 0, with(p, 1, "x")), trace.Fine},
 		{[]api.Mark{of(api.EvSend, late), of(api.EvTimeout, late)}, mark(1, api.EvRecv, 3, late), trace.Both},
 		{sent, of(api.EvRecv, second), trace.Order},
 		{sent, of(api.EvRecv, q), trace.Fine},

@@ -329,10 +329,11 @@ func TestScan(t *testing.T) {
 	if x.w.Place() != 3 || x.s.Table.Count(api.StPending) != 2 {
 		t.Errorf("%d, %v", x.w.Place(), x.s.Table.All())
 	}
-	// In a new round it goes on where it was.
+	// In a new round it goes on where it was, and looks at as many again.
+	x.send(0, 0, 0, 0)
 	x.until(sc)
-	x.steps(sc, sc, sc, lo)
-	if x.w.Place() != 4 || x.s.Table.Count(api.StPending) != 3 {
+	x.steps(sc, sc, sc, sc, sc, sc, sc, sc, sc, lo)
+	if x.w.Place() != 6 || x.s.Table.Count(api.StPending) != 5 {
 		t.Errorf("%d", x.w.Place())
 	}
 }
@@ -420,6 +421,21 @@ func TestAFullBatch(t *testing.T) {
 	}
 	ops, _ := x.told(5)
 	if len(ops) != 3 || ops[0] != (api.Op{Kind: api.OpReserve, Who: 1, Side: 1, Account: 1, N: 2}) || ops[1].N != 0 || ops[2].N != 1 {
+		t.Errorf("%v", ops)
+	}
+}
+
+// TestTheLineIsANewOne: who stood in it behind a full batch comes in order again.
+func TestTheLineIsANewOne(t *testing.T) {
+	x := open(t, 0, func(c *api.Config) { c.Batch, c.Txs = 1, 1 })
+	x.send(0, 0, 0)
+	x.until(fl)
+	x.until(sc)
+	n := len(x.s.Hist.Records())
+	// The first one waits in the pool; then the second one is claimed.
+	x.steps(lo, lo, pl, pl, pl)
+	ops, _ := x.told(n)
+	if !slices.Equal(ops, []api.Op{{Kind: api.OpClaim, Who: 1, Key: key(2)}}) {
 		t.Errorf("%v", ops)
 	}
 }
