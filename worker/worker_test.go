@@ -435,7 +435,7 @@ func TestTheLineIsANewOne(t *testing.T) {
 	// The first one waits in the pool; then the second one is claimed.
 	x.steps(lo, lo, pl, pl, pl)
 	ops, _ := x.told(n)
-	if !slices.Equal(ops, []api.Op{{Kind: api.OpClaim, Who: 1, Key: key(2)}}) {
+	if !slices.Equal(ops, []api.Op{{Kind: api.OpClaim, Who: 1, Key: key(2)}}) || x.s.Table.Count(api.StClaimed) != 0 {
 		t.Errorf("%v", ops)
 	}
 }
