@@ -4,6 +4,7 @@ import (
 	"math"
 	"math/rand"
 	"slices"
+	"strconv"
 	"testing"
 
 	"muleteer/api"
@@ -152,6 +153,27 @@ func TestPlay(t *testing.T) {
 	}
 	if r, codes, e := run.Play(c, make([]api.Step, api.MaxList+1)); r != nil || len(codes) != 0 || e != api.ErrFull {
 		t.Errorf("too many: %d, %v", len(codes), e)
+	}
+}
+
+// TestTheWayOfAPacketStepByStep: each step of a worker, from the begin to the round behind the one in which a packet is sent.
+func TestTheWayOfAPacketStepByStep(t *testing.T) {
+	r := made(t, api.Config{Ordered: []bool{false}, Accounts: 1, Shards: 1, Room: 1, Pool: 1, Block: 1, Batch: 1, Txs: 1, Scan: 1, Queue: 1})
+	for i, s := range script(t, "start\nsend 0 0 0 -\ntick 0\n") {
+		if code := r.Do(s); code != api.OK {
+			t.Fatalf("%d: %v", i, code)
+		}
+	}
+	phases := ""
+	for range 24 {
+		r.Do(api.Step{Kind: api.SpPick})
+		phases += strconv.Itoa(r.Relay().Worker(0).Phase())
+	}
+	if phases != "0001"+"2222"+"3"+"4444444444"+"5555"+"0" {
+		t.Errorf("%s", phases)
+	}
+	if n := r.Relay().Site().World.Ledger(1).Waiting(); n != 1 {
+		t.Errorf("%d wait", n)
 	}
 }
 

@@ -258,7 +258,8 @@ func TestARoundStepByStep(t *testing.T) {
 	if len(x.s.Alloc.Held(1, 1, 1)) != 0 {
 		t.Errorf("committed: %v", x.s.Alloc.Held(1, 1, 1))
 	}
-	x.steps(se, fr)
+	// Nothing is left at the ledger 1: the next ledger; the step behind it frees.
+	x.steps(se, se, fr)
 	if !slices.Equal(x.w.Held(), []api.Key{key(1)}) {
 		t.Errorf("%v", x.w.Held())
 	}
@@ -569,11 +570,62 @@ func TestNoNumbersAreLeft(t *testing.T) {
 	x.send(0, 0)
 	x.until(fl)
 	n := len(x.s.Hist.Records())
-	x.steps(se, se, se, se, fr)
+	// What is heard is the next ledger; the step behind it frees.
+	x.steps(se, se, se, se, se, fr)
 	x.until(sc)
 	x.want(n, []int{api.OpReserve, api.OpRelease}, api.ErrExhausted, api.OK)
 	if len(x.w.Held()) != 0 || x.w.Waiting() != 0 {
 		t.Errorf("%v", x.w.Held())
+	}
+}
+
+// TestTheNextLedger: nothing left at a ledger takes a step, and so does freeing behind the ledger 1; a refusal takes none beside the operation's.
+func TestTheNextLedger(t *testing.T) {
+	reserved := func(sides ...int) (l []api.Op) {
+		for _, side := range sides {
+			l = append(l, api.Op{Kind: api.OpReserve, Who: 1, Side: side, Account: 1, N: 1})
+		}
+		return l
+	}
+	commit := func(side int) api.Op { return api.Op{Kind: api.OpCommit, Who: 1, Side: side, Account: 1} }
+	for i, c := range []struct {
+		refused []int // the ledgers at which no number is left
+		sending int   // the phase is Sending behind so many steps
+		ops     []api.Op
+	}{
+		// Into it; three of OpReserve, one that sends, three of OpCommit, one to the next ledger, for each of both.
+		{nil, 17, []api.Op{reserved(0)[0], commit(0), reserved(1)[0], commit(1)}},
+		{[]int{0}, 12, []api.Op{reserved(0)[0], reserved(1)[0], commit(1)}},
+		{[]int{1}, 12, []api.Op{reserved(0)[0], commit(0), reserved(1)[0]}},
+		{[]int{0, 1}, 7, reserved(0, 1)},
+	} {
+		x := open(t, 0, func(c *api.Config) { c.Batch, c.Txs, c.Accounts = 1, 2, 3 })
+		x.send(0, 0, 0)
+		p, _ := x.s.World.Ledger(0).Find(key(2))
+		x.s.World.Submit(api.Tx{Side: 1, Account: 2, Msgs: []api.Msg{{Kind: api.MsgRecv, Packet: p}}})
+		x.s.World.Tick(1)
+		for _, side := range c.refused {
+			x.s.Do(api.Op{Kind: api.OpResync, Who: 9, Side: side, Account: 1, N: api.Top})
+		}
+		x.until(fl)
+		n := len(x.s.Hist.Records())
+		x.steps(append(slices.Repeat([]int{se}, c.sending), fr)...)
+		if ops, _ := x.told(n); !slices.Equal(ops, c.ops) {
+			t.Errorf("%d: %v", i, ops)
+		}
+	}
+}
+
+// TestNothingGoesToTheLedger1: what goes to the ledger 0 alone is sent; then the ledger 1 takes a step all the same.
+func TestNothingGoesToTheLedger1(t *testing.T) {
+	x := open(t, 0, nil)
+	x.send(0, 0)
+	x.until(sc)
+	x.s.World.Tick(1)
+	x.until(fl)
+	x.steps(se, se, se, se, se, se, se, se, se, se, fr)
+	if x.s.World.Ledger(0).Waiting() != 1 || x.s.World.Ledger(1).Waiting() != 0 {
+		t.Errorf("%d, %d", x.s.World.Ledger(0).Waiting(), x.s.World.Ledger(1).Waiting())
 	}
 }
 
